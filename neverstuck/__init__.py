@@ -1,0 +1,1 @@
+"""Programs whose hands lock things, and why none waits for ever."""

@@ -1,0 +1,130 @@
+"""What several tests share: things of any kind, and programs, facts and weavings made at random."""
+
+import random
+
+WORDS = ("p", "q", "r")
+NAMES = ("a", "b", "c")
+
+
+class Blank:
+    """A thing of a kind of its own."""
+
+
+class Loud:
+    """A thing that is the same as anything, so that it slips through looks by == alone."""
+
+    def __eq__(self, other):
+        return True
+
+    def __hash__(self):
+        return 1
+
+
+def nested(thing, times, wrap):
+    for _ in range(times):
+        thing = wrap(thing)
+    return thing
+
+
+def anything():
+    """Things of any kind that are no right part of a program, a move or a reason in any place."""
+    return [
+        None, True, False, b"", b"a", bytearray(b"a"), [], [1], {}, {"a": 1}, set(), {1}, frozenset(),
+        object(), Blank(), Loud(), Blank, int, len, lambda: 1, iter(()), range(2), slice(1), ...,
+        10 ** 40, -(10 ** 40), -100, "A", "aB", "nineletts", "a b", "a1", " a", "a\n", "\u00e4", "\u0430", "\ud800",
+        "a" * 10000, (None,), ((),), ("say", "x", "x"), ("nothing", ()), ({},), (True, 1), ("p", True), (Loud(),),
+        (Loud(), Loud()), (Loud(), Loud(), Loud()), tuple([0] * 5000),
+        nested((), 58, lambda x: (x,)), nested((), 58, lambda x: [x]), nested((), 58, lambda x: {"x": x}),
+    ]
+
+
+def places(thing, path=()):
+    """Each place in nested tuples, as the path of places to it."""
+    found = [path]
+    if isinstance(thing, tuple):
+        for at, inner in enumerate(thing):
+            found.extend(places(inner, path + (at,)))
+    return found
+
+
+def at_place(thing, path):
+    for at in path:
+        thing = thing[at]
+    return thing
+
+
+def replaced(thing, path, other):
+    if not path:
+        return other
+    at = path[0]
+    return thing[:at] + (replaced(thing[at], path[1:], other),) + thing[at + 1:]
+
+
+def random_term(chance, params):
+    word = chance.choice(("",) + params)
+    return (word, chance.randint(-2, 2))
+
+
+def random_lock(chance, params):
+    return (chance.choice(NAMES), random_term(chance, params))
+
+
+def random_row(chance, heads, params, deep):
+    sorts = ["say", "call", "within", "within", "all", "ask", "by", "either", "again"]
+    sort = chance.choice(sorts if deep < 5 else sorts[:2])
+
+    def lot():
+        return random_lot(chance, heads, params, deep + 1)
+
+    if sort == "say":
+        return ("say", chance.choice(("x", "y")))
+    if sort == "call":
+        deed, others = chance.choice(heads)
+        return ("call", deed, tuple(random_term(chance, params) for _ in others))
+    if sort == "all":
+        locks = []
+        while len(locks) < chance.randint(2, 3):
+            lock = random_lock(chance, params)
+            if lock not in locks:
+                locks.append(lock)
+        return ("all", tuple(locks), lot())
+    if sort == "within":
+        return ("within", random_lock(chance, params), lot())
+    if sort == "ask":
+        return ("ask", random_lock(chance, params), lot(), lot())
+    if sort == "by":
+        return ("by", random_term(chance, params), random_term(chance, params), lot(), lot(), lot())
+    if sort == "either":
+        return ("either", lot(), lot())
+    return ("again", lot())
+
+
+def random_lot(chance, heads, params, deep):
+    most = (4, 2, 2, 1, 1)[deep - 1]
+    return tuple(random_row(chance, heads, params, deep) for _ in range(chance.randint(0, most)))
+
+
+def random_program(chance):
+    heads = [(deed, WORDS[:chance.randint(0, 2)]) for deed in ("go", "do", "be")[:chance.randint(1, 3)]]
+    return (NAMES, tuple((deed, params, random_lot(chance, heads, params, 1)) for deed, params in heads))
+
+
+def random_town(chance, program):
+    hands = []
+    for _ in range(chance.randint(1, 3)):
+        deed, params, _ = chance.choice(program[1])
+        hands.append((deed, tuple(chance.randint(-2, 2) for _ in params)))
+    return tuple(hands)
+
+
+def random_facts(chance, many, most=4, words=("", "p", "q", "r")):
+    return tuple(random_fact(chance, most, words) for _ in range(many))
+
+
+def random_fact(chance, most=4, words=("", "p", "q", "r")):
+    one, other = chance.sample(words, 2)
+    return (one, other, chance.randint(-most, most))
+
+
+def seeded(number):
+    return random.Random(number)

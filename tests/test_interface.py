@@ -1,0 +1,28 @@
+"""The interface: names and arguments as they stand, and that nothing handed in is changed."""
+
+import importlib
+import inspect
+import unittest
+
+INTERFACE = {
+    "terms": {"value_of": "term numbers", "put_in": "term terms"},
+    "programs": {"is_program": "thing", "rows_of": "program", "calls_of": "program", "comes_to_itself": "program"},
+    "facts": {"holds": "fact numbers", "follows": "facts fact", "fact_of": "one other more",
+              "is_less": "facts one other more"},
+}
+
+
+class TestInterface(unittest.TestCase):
+    def test_names_and_arguments(self):
+        for file, defs in INTERFACE.items():
+            module = importlib.import_module(f"neverstuck.{file}")
+            for name, arguments in defs.items():
+                told = inspect.signature(getattr(module, name)).parameters.values()
+                self.assertEqual([one.name for one in told], arguments.split(), name)
+                for one in told:
+                    self.assertEqual(one.kind, inspect.Parameter.POSITIONAL_OR_KEYWORD, name)
+                    self.assertIs(one.default, inspect.Parameter.empty, name)
+
+
+if __name__ == "__main__":
+    unittest.main()
