@@ -40,9 +40,7 @@ def are_names(thing):
 
 def are_heads(deeds):
     """Whether these are deeds, as far as can be said without their rows."""
-    if not isinstance(deeds, tuple) or len(deeds) > MOST_DEEDS:
-        return False
-    if not all([is_tuple_of(deed, 3) for deed in deeds]):
+    if not isinstance(deeds, tuple) or not all([is_tuple_of(deed, 3) for deed in deeds]):
         return False
     if not are_unlike_words(tuple([deed[0] for deed in deeds]), 1, MOST_DEEDS):
         return False

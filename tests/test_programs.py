@@ -77,6 +77,12 @@ class TestIsProgram(unittest.TestCase):
                             with_rows((("say", word),))):
                 self.assertIs(is_program(program), right, program)
 
+    def test_each_sign_as_a_letter(self):
+        for number in range(0x300):
+            right = chr(number) in tuple("abcdefghijklmnopqrstuvwxyz")
+            for word in (chr(number), "a" + chr(number)):
+                self.assertIs(is_program(with_rows((("say", word),))), right, word)
+
     def test_figures(self):
         for figure, right in ((99, True), (-99, True), (0, True), (100, False), (-100, False), (10 ** 30, False)):
             for word in ("", "p"):

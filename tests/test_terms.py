@@ -40,6 +40,13 @@ class TestPutIn(unittest.TestCase):
         self.assertEqual(put_in(("", 3), {"p": ("q", 2)}), ("", 3))
         self.assertEqual(put_in(("", -3), {}), ("", -3))
 
+    def test_a_word_without_a_term_stays(self):
+        self.assertEqual(put_in(("q", 3), {"p": ("r", 2)}), ("q", 3))
+
+    def test_the_empty_text_is_no_word(self):
+        self.assertEqual(put_in(("", 3), {"": ("q", 2)}), ("", 3))
+        self.assertEqual(value_of(("", 3), {"": 2}), 3)
+
     def test_it_is_put_in_once(self):
         self.assertEqual(put_in(("p", 0), {"p": ("p", 1)}), ("p", 1))
 
