@@ -4,6 +4,19 @@ import random
 
 WORDS = ("p", "q", "r")
 NAMES = ("a", "b", "c")
+SAY = ("say", "x")
+A = ("a", ("", 0))
+B = ("b", ("", 0))
+
+
+def program_of(*rows, others=()):
+    """A program whose first deed, go, has these rows and no params."""
+    return (NAMES, (("go", (), tuple(rows)),) + tuple(others))
+
+
+def go(many=1):
+    """A town of so many hands that do go."""
+    return (("go", ()),) * many
 
 
 class Blank:

@@ -1,4 +1,4 @@
-"""The interface: names and arguments as they stand, and that nothing handed in is changed."""
+"""The interface: names and arguments as they stand."""
 
 import importlib
 import inspect
@@ -9,6 +9,11 @@ INTERFACE = {
     "programs": {"is_program": "thing", "rows_of": "program", "calls_of": "program", "comes_to_itself": "program"},
     "facts": {"holds": "fact numbers", "follows": "facts fact", "fact_of": "one other more",
               "is_less": "facts one other more"},
+    "reasons": {"reason": "facts fact"},
+    "reasonlooks": {"shows_reason": "facts fact thing"},
+    "scenes": {"begun": "program town", "held_by": "scene lock", "row_at": "program scene hand",
+               "waits": "program scene hand"},
+    "steps": {"moves": "program scene", "stepped": "program scene move", "walked": "program town weaving"},
 }
 
 
