@@ -28,6 +28,13 @@ def lots_of(row):
     return row[SHAPES[row[0]][0]:]
 
 
+def locks_of(row):
+    """The locks that stand in a row, each as (name, term)."""
+    if row[0] == "all":
+        return row[1]
+    return (row[1],) if row[0] in ("within", "ask") else ()
+
+
 def are_unlike_words(thing, least, most):
     if not isinstance(thing, tuple) or not least <= len(thing) <= most:
         return False
@@ -146,13 +153,18 @@ def deed_numbers(program):
     return {deed[0]: number for number, deed in enumerate(program[1])}
 
 
-def calls_of(program):
+def calls_in(program, rows):
+    """For each deed the rising tuple of the deeds that stand in those of its calls that are among the (deed, row)."""
     numbers = deed_numbers(program)
     called = [[] for deed in program[1]]
-    for deed, row in rows_of(program):
+    for deed, row in rows:
         if row[0] == "call":
             called[deed].append(numbers[row[1]])
     return tuple([tuple(sorted(set(some))) for some in called])
+
+
+def calls_of(program):
+    return calls_in(program, rows_of(program))
 
 
 def come_to(calls, deed):

@@ -1,7 +1,7 @@
 """A look at reasons, whoever made them."""
 
 from neverstuck.facts import holds, words_in
-from neverstuck.terms import is_tuple_of, is_whole
+from neverstuck.terms import is_name_and_number, is_tuple_of, is_whole
 
 
 def are_numbers_of(facts, thing):
@@ -22,12 +22,8 @@ def is_chain_or_round(fact, some):
     return first == last and together < 0
 
 
-def is_pair(thing):
-    return is_tuple_of(thing, 2) and isinstance(thing[0], str) and is_whole(thing[1])
-
-
 def are_pairs_against(facts, fact, thing):
-    if not isinstance(thing, tuple) or not all([is_pair(pair) for pair in thing]):
+    if not isinstance(thing, tuple) or not all([is_name_and_number(pair) for pair in thing]):
         return False
     words = [word for word in words_in(facts + (fact,)) if word != ""]
     if [pair[0] for pair in thing] != words:

@@ -1,6 +1,6 @@
 """Scenes: where the hands of a town stand, what they hold, and what they wait for."""
 
-from neverstuck.programs import deed_numbers, lots_of, places_of
+from neverstuck.programs import deed_numbers, locks_of, lots_of, places_of
 from neverstuck.terms import value_of
 
 
@@ -31,6 +31,12 @@ def row_on(rows, path):
 def row_here(program, frame):
     deed, numbers, path = frame
     return row_on(rows_in(program, deed), path)
+
+
+def row_stood_at(program, scene, hand):
+    """The row at which a hand stands, or None where it stands at an end or is done."""
+    frames = scene[hand][0]
+    return row_here(program, frames[-1]) if frames else None
 
 
 def behind(path):
@@ -99,15 +105,13 @@ def row_at(program, scene, hand):
 
 def locks_told(program, frame):
     """The rising tuple of the locks that the row of a frame tells: a within, an all or an ask."""
-    row = row_here(program, frame)
+    locks = locks_of(row_here(program, frame))
     numbers = numbers_in(program, frame)
-    locks = row[1] if row[0] == "all" else (row[1],)
     return tuple(sorted({(name, value_of(term, numbers)) for name, term in locks}))
 
 
 def waits(program, scene, hand):
-    frames = scene[hand][0]
-    row = row_here(program, frames[-1]) if frames else None
+    row = row_stood_at(program, scene, hand)
     if row is None or row[0] not in ("within", "all"):
         return ()
-    return tuple([lock for lock in locks_told(program, frames[-1]) if held_by(scene, lock) is not None])
+    return tuple([lock for lock in locks_told(program, scene[hand][0][-1]) if held_by(scene, lock) is not None])

@@ -13,6 +13,11 @@ def is_tuple_of(thing, many):
     return isinstance(thing, tuple) and len(thing) == many
 
 
+def is_name_and_number(thing):
+    """Whether this is a text with a whole number: a word with its number, or a lock as hands hold it."""
+    return is_tuple_of(thing, 2) and isinstance(thing[0], str) and is_whole(thing[1])
+
+
 def is_word(thing):
     if not isinstance(thing, str) or not 1 <= len(thing) <= MOST_LETTERS:
         return False

@@ -2,6 +2,10 @@
 
 import random
 
+from neverstuck.programs import rows_of
+from neverstuck.scenes import row_at
+from neverstuck.steps import moves, stepped
+
 WORDS = ("p", "q", "r")
 NAMES = ("a", "b", "c")
 SAY = ("say", "x")
@@ -73,6 +77,44 @@ def replaced(thing, path, other):
     return thing[:at] + (replaced(thing[at], path[1:], other),) + thing[at + 1:]
 
 
+def of_other_kinds(thing):
+    """The thing with one tuple a list, or one 0 or 1 a truth: the same to ==, or nearly, but no such thing."""
+    found = []
+    for path in places(thing):
+        part = at_place(thing, path)
+        if isinstance(part, tuple):
+            found.append(replaced(thing, path, list(part)))
+        elif part in (0, 1):
+            found.append(replaced(thing, path, bool(part)))
+    return found
+
+
+def is_quiet(program, scene, hand):
+    number = row_at(program, scene, hand)
+    return number is not None and rows_of(program)[number][1][0] in ("say", "call", "by", "either", "again")
+
+
+def rests(program, scene):
+    return not any(is_quiet(program, scene, hand) for hand in range(len(scene)))
+
+
+def scenes_from(program, scene, limit, quiet_alone=False):
+    """All scenes to which moves lead, in no told order; None where there are more than the limit."""
+    seen, ahead = {scene}, [scene]
+    while ahead:
+        here = ahead.pop()
+        for move in moves(program, here):
+            if quiet_alone and not is_quiet(program, here, move[0]):
+                continue
+            there, _ = stepped(program, here, move)
+            if there not in seen:
+                seen.add(there)
+                ahead.append(there)
+        if len(seen) > limit:
+            return None
+    return seen
+
+
 def random_term(chance, params):
     word = chance.choice(("",) + params)
     return (word, chance.randint(-2, 2))
@@ -120,6 +162,37 @@ def random_lot(chance, heads, params, deep):
 def random_program(chance):
     heads = [(deed, WORDS[:chance.randint(0, 2)]) for deed in ("go", "do", "be")[:chance.randint(1, 3)]]
     return (NAMES, tuple((deed, params, random_lot(chance, heads, params, 1)) for deed, params in heads))
+
+
+def crowded_row(chance, deep):
+    sort = chance.choice(("say", "within", "within", "within", "all", "ask", "either", "again", "call"))
+
+    def lot():
+        return crowded_lot(chance, deep + 1)
+
+    one, other = chance.sample([(name, ("", 0)) for name in NAMES], 2)
+    if sort == "within":
+        return ("within", one, lot())
+    if sort == "all":
+        return ("all", (one, other), lot())
+    if sort == "ask":
+        return ("ask", one, lot(), lot())
+    if sort == "either":
+        return ("either", lot(), lot())
+    if sort == "again":
+        return ("again", lot())
+    return ("call", "be", ()) if sort == "call" else SAY
+
+
+def crowded_lot(chance, deep):
+    return tuple(crowded_row(chance, deep) for _ in range(chance.randint(0, 2 if deep < 3 else 0)))
+
+
+def crowded_program(chance):
+    """A program of three locks, taken within one another so that hands come to wait for one another."""
+    deeds = [(deed, (), (("within", chance.choice(((A, B, ("c", ("", 0))))), crowded_lot(chance, 1)),))
+             for deed in ("go", "do", "be")]
+    return (NAMES, tuple(deeds))
 
 
 def random_town(chance, program):

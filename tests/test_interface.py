@@ -14,6 +14,12 @@ INTERFACE = {
     "scenes": {"begun": "program town", "held_by": "scene lock", "row_at": "program scene hand",
                "waits": "program scene hand"},
     "steps": {"moves": "program scene", "stepped": "program scene move", "walked": "program town weaving"},
+    "resting": {"rests_of": "program scene most", "long_steps": "program scene most"},
+    "books": {"book": "program town most", "resting_book": "program town most"},
+    "stuckways": {"stuck_way": "program town most"},
+    "booklooks": {"shows_book": "program town thing", "shows_stuck": "program town thing",
+                  "shows_never": "program town thing"},
+    "rings": {"rings": "program scene", "shows_ring": "program scene thing"},
 }
 
 

@@ -4,10 +4,10 @@ import copy
 import unittest
 
 from neverstuck.errors import NoStep, StuckError
-from neverstuck.programs import rows_of
 from neverstuck.scenes import begun, held_by, row_at, waits
 from neverstuck.steps import moves, stepped, walked
-from tests.helpers import A, B, NAMES, SAY, Loud, anything, go, program_of, random_program, random_town, seeded
+from tests.helpers import (A, B, NAMES, SAY, Loud, anything, go, is_quiet, program_of, random_program, random_town,
+                           scenes_from, seeded)
 
 
 def one_hand(path, held=()):
@@ -467,7 +467,7 @@ class TestTheWhole(unittest.TestCase):
                 able = moves(program, scene)
                 if not able:
                     break
-                for quiet in self.quiet_moves(program, scene):
+                for quiet in [move for move in able if is_quiet(program, scene, move[0])]:
                     behind, _ = stepped(program, scene, quiet)
                     self.assertEqual([held for frames, held in behind], [held for frames, held in scene])
                     for other in able:
@@ -479,44 +479,24 @@ class TestTheWhole(unittest.TestCase):
                 scene, _ = stepped(program, scene, chance.choice(able))
         self.assertGreater(checked, 500)
 
-    def quiet_moves(self, program, scene):
-        sorts = [row[0] for deed, row in rows_of(program)]
-        for hand, choice in moves(program, scene):
-            if sorts[row_at(program, scene, hand)] in ("say", "call", "by", "either", "again"):
-                yield (hand, choice)
-
     def test_who_waits_in_a_ring_never_steps_again(self):
         others = (("do", (), (("within", B, (("within", A, ()),)),)), ("on", (), (("again", (("ask", A, (), ()),)),)))
         program = program_of(("within", A, (("within", B, ()),)), others=others)
         scene, _ = walked(program, (("go", ()), ("do", ()), ("on", ())), ((0, 0), (1, 0)))
-        seen, ahead = {scene}, [scene]
-        while ahead:
-            here = ahead.pop()
-            for move in moves(program, here):
-                self.assertEqual(move[0], 2)
-                there, _ = stepped(program, here, move)
-                if there not in seen:
-                    seen.add(there)
-                    ahead.append(there)
+        for here in scenes_from(program, scene, 100):
+            self.assertEqual({hand for hand, choice in moves(program, here)} - {2}, set())
 
     def test_takings_that_rise_are_never_stuck(self):
         # Each waits for what is further than all it holds, so whatever the weaving, all come to be done.
         row = ("by", ("p", 0), ("q", 0), (("within", ("a", ("p", 0)), (("within", ("a", ("q", 0)), ()),)),), (), ())
         program = (NAMES, (("go", ("p", "q"), (row,)),))
         town = (("go", (1, 2)), ("go", (2, 3)), ("go", (1, 3)), ("go", (3, 1)))
-        seen, ahead = {begun(program, town)}, [begun(program, town)]
-        while ahead:
-            scene = ahead.pop()
-            able = moves(program, scene)
-            self.assertTrue(able or all(not frames for frames, held in scene))
+        seen = scenes_from(program, begun(program, town), 1000)
+        for scene in seen:
+            self.assertTrue(moves(program, scene) or all(not frames for frames, held in scene))
             for hand, (frames, held) in enumerate(scene):
                 for lock in waits(program, scene, hand):
                     self.assertTrue(all(lock > other for block in held for other in block))
-            for move in able:
-                there, _ = stepped(program, scene, move)
-                if there not in seen:
-                    seen.add(there)
-                    ahead.append(there)
         self.assertGreater(len(seen), 50)
 
 
