@@ -20,6 +20,10 @@ INTERFACE = {
     "booklooks": {"shows_book": "program town thing", "shows_stuck": "program town thing",
                   "shows_never": "program town thing"},
     "rings": {"rings": "program scene", "shows_ring": "program scene thing"},
+    "losing": {"lost": "program scene most"},
+    "pairs": {"known_at": "program number", "pairs": "program"},
+    "textrings": {"text_ring": "program", "chain": "program"},
+    "textlooks": {"shows_text_ring": "program thing", "shows_chain": "program thing"},
 }
 
 
