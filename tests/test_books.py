@@ -255,7 +255,8 @@ class TestShowsBook(unittest.TestCase):
             self.wrong(tuple(scenes), ENDLESS)
 
     def test_things_of_other_kinds(self):
-        numbered = (NAMES, (("go", ("p", "q"), (("within", ("a", ("p", 0)), ()),)),))
+        locks = (("a", ("p", 0)), ("b", ("q", 0)))
+        numbered = (NAMES, (("go", ("p", "q"), (("all", locks, ()),)),))
         for program, town in ((self.program, go()), (CROSS, CROSS_TOWN), (numbered, (("go", (0, 1)), ("go", (1, 0))))):
             scenes = self.scenes(program, town)
             self.right(scenes, program, town)
