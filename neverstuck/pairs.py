@@ -39,39 +39,49 @@ def known_at(program, number):
     return known_on(rows_in(program, deed), path)
 
 
-def living_places(program):
-    """The rows that aren't dead, each as (number, deed, path, row)."""
-    return [(number, deed, path, row) for number, (deed, path, row) in enumerate(places_of(program))
-            if known_on(rows_in(program, deed), path) is not None]
+def locks_held(rows, path):
+    """The locks held around the row of a path, as rows tell them."""
+    return [lock for row, lot in rows_around(rows, path) if stands_at_end(row, lot) for lock in locks_of(row)]
 
 
-def names_locked(row):
-    """The names of the locks for which one waits at a row, if need be."""
-    return [name for name, term in locks_of(row)] if row[0] in ("within", "all") else []
+def living_rows(program):
+    """The rows that aren't dead, each as (number, deed, row, facts known there, locks held around it)."""
+    found = []
+    for number, (deed, path, row) in enumerate(places_of(program)):
+        rows = rows_in(program, deed)
+        facts = known_on(rows, path)
+        if facts is not None:
+            found.append((number, deed, row, facts, locks_held(rows, path)))
+    return found
+
+
+def locks_waited_for(row):
+    """The locks for which one waits at a row, if need be."""
+    return locks_of(row) if row[0] in ("within", "all") else ()
 
 
 def names_taken(program, living):
     """For each deed the names that it takes, by its own living rows and by the deeds to which living calls come."""
     own = [[] for deed in program[1]]
-    for number, deed, path, row in living:
-        own[deed].extend(names_locked(row))
-    calls = calls_in(program, [(deed, row) for number, deed, path, row in living])
+    for number, deed, row, facts, held in living:
+        own[deed].extend([name for name, term in locks_waited_for(row)])
+    calls = calls_in(program, [(deed, row) for number, deed, row, facts, held in living])
     return [sorted({name for other in [deed] + come_to(calls, deed) for name in own[other]})
             for deed in range(len(own))]
 
 
-def names_held(rows, path):
-    """The names of the locks held around the row of a path."""
-    return [name for row, lot in rows_around(rows, path) if stands_at_end(row, lot) for name, term in locks_of(row)]
-
-
-def pairs(program):
-    living = living_places(program)
+def pairs_by(program, living):
+    """The rising tuple of the pairs that living rows make."""
     taken = names_taken(program, living)
     numbers = deed_numbers(program)
     found = []
-    for number, deed, path, row in living:
-        names = taken[numbers[row[1]]] if row[0] == "call" else names_locked(row)
-        held = names_held(rows_in(program, deed), path)
-        found.extend([(number, one, other) for one in held for other in names])
+    for number, deed, row, facts, held in living:
+        names = [name for name, term in locks_waited_for(row)]
+        if row[0] == "call":
+            names = taken[numbers[row[1]]]
+        found.extend([(number, one, other) for one, term in held for other in names])
     return tuple(sorted(set(found)))
+
+
+def pairs(program):
+    return pairs_by(program, living_rows(program))

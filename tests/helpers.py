@@ -2,7 +2,8 @@
 
 import random
 
-from neverstuck.programs import rows_of
+from neverstuck.papers import faults
+from neverstuck.programs import SHAPES, is_program, rows_of
 from neverstuck.scenes import row_at
 from neverstuck.steps import moves, stepped
 
@@ -201,6 +202,87 @@ def random_town(chance, program):
         deed, params, _ = chance.choice(program[1])
         hands.append((deed, tuple(chance.randint(-2, 2) for _ in params)))
     return tuple(hands)
+
+
+def crowded_town(chance, program, most=4):
+    """A town of so many hands at most, whose numbers are small, so that they come to want the same locks."""
+    hands = []
+    for _ in range(chance.randint(1, most)):
+        deed, params, _ = chance.choice(program[1])
+        hands.append((deed, tuple(chance.randint(-1, 1) for _ in params)))
+    return tuple(hands)
+
+
+def lots_within(lot, path=()):
+    """Each lot in a lot, itself too, as the path of places to it."""
+    found = [path]
+    for at, row in enumerate(lot):
+        for place in range(SHAPES[row[0]][0], len(row)):
+            found.extend(lots_within(row[place], path + (at, place)))
+    return found
+
+
+def with_row(program, deed, path, row):
+    """The program with a row more, ahead of all others in a lot of a deed."""
+    return replaced(program, (1, deed, 2) + path, (row,) + at_place(program, (1, deed, 2) + path))
+
+
+def drawn_paper(chance, names, heads, most):
+    """A paper with at most one bound of each name for each deed, its figures from -most to most."""
+    takes = []
+    for _, params in heads:
+        bounds = [() if chance.random() < 0.1 else (chance.choice(params * 2 + ("",)), chance.randint(-most, most))
+                  for _ in names]
+        takes.append(tuple((name, bound) for name, bound in zip(names, bounds) if chance.random() < 0.9))
+    return (tuple((chance.randint(0, 2), chance.choice((1, -1))) for _ in names), tuple(takes))
+
+
+def fitting_lock(chance, names, paper, deed, params, most):
+    """A lock, often just as far as a bound of the paper or a little further."""
+    name = chance.choice(names)
+    bounds = [bound for other, bound in paper[1][deed] if other == name and bound != ()]
+    if not bounds or chance.random() < 0.3:
+        return (name, (chance.choice(params + ("",)), chance.randint(-most, most)))
+    word, figure = bounds[0]
+    figure += paper[0][names.index(name)][1] * chance.choice((0, 0, 1, 1, 2))
+    return (name, (word, max(-99, min(99, figure))))
+
+
+def drawn_row(chance, names, paper, deed, heads, most):
+    """A row without rows in it that may go by a paper."""
+    params = heads[deed][1]
+
+    def lock():
+        return fitting_lock(chance, names, paper, deed, params, most)
+
+    def term():
+        small = chance.choice((1, most))
+        return (chance.choice(params * 2 + ("",)), chance.randint(-small, small))
+
+    sort = chance.choice(("within",) * 4 + ("call",) * 4 + ("by", "by", "ask", "all", "either", "again", "say"))
+    one, other = lock(), lock()
+    if sort == "call":
+        called, others = chance.choice(heads)
+        return ("call", called, tuple(term() for _ in others))
+    if sort == "all" and one != other:
+        return ("all", (one, other), ())
+    return {"within": ("within", one, ()), "ask": ("ask", one, (), ()), "by": ("by", term(), term(), (), (), ()),
+            "either": ("either", (), ()), "again": ("again", ())}.get(sort, SAY)
+
+
+def papered_program(chance, tries, most):
+    """A program with a paper that is taken, built row by row; its figures go from -most to most."""
+    names = NAMES[:chance.choice((1, 1, 2, 3))]
+    heads = [(deed, WORDS[:chance.randint(0, 3)]) for deed in ("go", "do", "be", "so")[:chance.randint(1, 4)]]
+    paper = drawn_paper(chance, names, heads, most)
+    program = (names, tuple((deed, params, ()) for deed, params in heads))
+    for _ in range(tries):
+        deed = chance.randrange(len(heads))
+        path = chance.choice(lots_within(program[1][deed][2]))
+        other = with_row(program, deed, path, drawn_row(chance, names, paper, deed, heads, most))
+        if is_program(other) and faults(other, paper) == ():
+            program = other
+    return program, paper
 
 
 def random_facts(chance, many, most=4, words=("", "p", "q", "r")):

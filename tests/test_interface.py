@@ -24,6 +24,11 @@ INTERFACE = {
     "pairs": {"known_at": "program number", "pairs": "program"},
     "textrings": {"text_ring": "program", "chain": "program"},
     "textlooks": {"shows_text_ring": "program thing", "shows_chain": "program thing"},
+    "papers": {"is_paper": "program thing", "is_further": "program paper one other", "faults": "program paper",
+               "shows_paper": "program thing"},
+    "finding": {"paper_for": "program"},
+    "verdicts": {"verdict": "program town most"},
+    "verdictlooks": {"shows_verdict": "program town thing"},
 }
 
 
