@@ -248,9 +248,10 @@ def fitting_lock(chance, names, paper, deed, params, most):
     return (name, (word, max(-99, min(99, figure))))
 
 
-def drawn_row(chance, names, paper, deed, heads, most):
-    """A row without rows in it that may go by a paper."""
+def drawn_row(chance, names, paper, deed, heads, most, callable_ones=None):
+    """A row without rows in it that may go by a paper; of the callable ones a deed is called, if they are told."""
     params = heads[deed][1]
+    called_ones = heads if callable_ones is None else callable_ones
 
     def lock():
         return fitting_lock(chance, names, paper, deed, params, most)
@@ -261,8 +262,8 @@ def drawn_row(chance, names, paper, deed, heads, most):
 
     sort = chance.choice(("within",) * 4 + ("call",) * 4 + ("by", "by", "ask", "all", "either", "again", "say"))
     one, other = lock(), lock()
-    if sort == "call":
-        called, others = chance.choice(heads)
+    if sort == "call" and called_ones:
+        called, others = chance.choice(called_ones)
         return ("call", called, tuple(term() for _ in others))
     if sort == "all" and one != other:
         return ("all", (one, other), ())
@@ -270,8 +271,11 @@ def drawn_row(chance, names, paper, deed, heads, most):
             "either": ("either", (), ()), "again": ("again", ())}.get(sort, SAY)
 
 
-def papered_program(chance, tries, most):
-    """A program with a paper that is taken, built row by row; its figures go from -most to most."""
+def papered_program(chance, tries, most, forward=False):
+    """A program with a paper that is taken, built row by row; its figures go from -most to most.
+
+    Forward, deeds call those behind them alone, so that none comes to itself.
+    """
     names = NAMES[:chance.choice((1, 1, 2, 3))]
     heads = [(deed, WORDS[:chance.randint(0, 3)]) for deed in ("go", "do", "be", "so")[:chance.randint(1, 4)]]
     paper = drawn_paper(chance, names, heads, most)
@@ -279,7 +283,8 @@ def papered_program(chance, tries, most):
     for _ in range(tries):
         deed = chance.randrange(len(heads))
         path = chance.choice(lots_within(program[1][deed][2]))
-        other = with_row(program, deed, path, drawn_row(chance, names, paper, deed, heads, most))
+        called_ones = heads[deed + 1:] if forward else heads
+        other = with_row(program, deed, path, drawn_row(chance, names, paper, deed, heads, most, called_ones))
         if is_program(other) and faults(other, paper) == ():
             program = other
     return program, paper

@@ -109,6 +109,7 @@ class TestForm(unittest.TestCase):
                 self.assertIsInstance(node.ctx, ast.Store, place)
             if isinstance(node, ast.FormattedValue):
                 self.assertIsNone(node.format_spec, place)
+                self.assertFalse([x for x in ast.walk(node.value) if isinstance(x, ast.JoinedStr)], place)
 
     def test_the_top_of_a_file(self):
         for file in files():

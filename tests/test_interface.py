@@ -29,6 +29,12 @@ INTERFACE = {
     "finding": {"paper_for": "program"},
     "verdicts": {"verdict": "program town most"},
     "verdictlooks": {"shows_verdict": "program town thing"},
+    "waysout": {"way_out": "program scene", "shows_out": "program scene thing"},
+    "changing": {"without_lock": "program number", "with_lock": "program number lock",
+                 "old_number": "program number other"},
+    "mending": {"asked_instead": "program some", "mends": "program most"},
+    "texts": {"show_program": "program", "read_program": "text", "show_weaving": "weaving", "read_weaving": "text"},
+    "desk": {"Desk": "text"},
 }
 
 
@@ -42,6 +48,10 @@ class TestInterface(unittest.TestCase):
                 for one in told:
                     self.assertEqual(one.kind, inspect.Parameter.POSITIONAL_OR_KEYWORD, name)
                     self.assertIs(one.default, inspect.Parameter.empty, name)
+
+    def test_the_desk_says(self):
+        told = inspect.signature(importlib.import_module("neverstuck.desk").Desk.say).parameters.values()
+        self.assertEqual([one.name for one in told][1:], ["line"])
 
 
 if __name__ == "__main__":
